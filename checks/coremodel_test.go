@@ -47,7 +47,7 @@ func (m *coreModel) eval(c api.Core, f *frame) value {
 	case api.CTuple:
 		return &tup{m.all(c.L, f)}
 	case api.CFn:
-		return &closure{func(x value) value { return m.eval(c.L[0], &frame{c.N, x, f}) }}
+		return &closure{apply: func(x value) value { return m.eval(c.L[0], &frame{c.N, x, f}) }}
 	case api.CFix:
 		return m.fix(c, f)
 	case api.CApp:
@@ -91,7 +91,7 @@ func (m *coreModel) fix(c api.Core, f *frame) value {
 	}
 	around := f
 	for i := len(c.Ns)/2 - 1; i >= 0; i-- {
-		f.v = &closure{func(x value) value { return m.eval(c.L[i], &frame{c.Ns[2*i+1], x, around}) }}
+		f.v = &closure{apply: func(x value) value { return m.eval(c.L[i], &frame{c.Ns[2*i+1], x, around}) }}
 		f = f.next
 	}
 	return m.eval(c.L[len(c.L)-1], around)

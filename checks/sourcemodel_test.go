@@ -70,7 +70,7 @@ func (m *sourceModel) bind(d api.Decl, s *scope) *scope {
 
 // fun is a function that has been applied to some of what it takes.
 func (m *sourceModel) fun(f api.Fun, has []value, s *scope) value {
-	return &closure{func(x value) value {
+	return &closure{apply: func(x value) value {
 		m.tick()
 		all := append(slices.Clone(has), x)
 		if len(all) < len(f.Pats) {
@@ -157,7 +157,7 @@ func (m *sourceModel) eval(e api.Expr, s *scope) value {
 		if !k.Has {
 			return int64(k.Tag)
 		}
-		return &closure{func(x value) value { return &tup{[]value{int64(k.Tag), x}} }}
+		return &closure{apply: func(x value) value { return &tup{[]value{int64(k.Tag), x}} }}
 	case api.ETuple:
 		if len(e.L) == 0 {
 			return int64(0)
@@ -167,7 +167,7 @@ func (m *sourceModel) eval(e api.Expr, s *scope) value {
 		l := m.all(e.L, s)
 		return apply(l[0], l[1])
 	case api.EFn:
-		return &closure{func(x value) value { return m.arms(e.Pats, e.L, x, s, int64(api.XMatch)) }}
+		return &closure{apply: func(x value) value { return m.arms(e.Pats, e.L, x, s, int64(api.XMatch)) }}
 	case api.EIf:
 		if m.eval(e.L[0], s) == value(int64(1)) {
 			return m.eval(e.L[1], s)

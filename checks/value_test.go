@@ -16,7 +16,11 @@ type tup struct{ l []value }
 
 type cell struct{ v value }
 
-type closure struct{ apply func(value) value }
+// closure is a function; with is the values that it has with it, where a model fills them in.
+type closure struct {
+	apply func(value) value
+	with  []value
+}
 
 // thrown is what a model is left with when something is raised; stuck and late when it can't go on, or takes too long.
 type thrown struct{ v value }

@@ -230,7 +230,7 @@ func (g *anyGen) ins(n int) []api.Ins {
 
 func TestP6_6_P6_7_ByChance(t *testing.T) {
 	var ended [10]int
-	for seed := range uint64(20000) {
+	for seed := range uint64(5000) {
 		g := &anyGen{gen{x: seed}}
 		// First closures, tuples and texts into the registers, so that more can be done with them.
 		begin, _, _ := isa.Read("enter 4\ntuple r1 3\nlit r2 0\nclosure r3 2\nlit r4 1\nfill r3 r4 0\nref r4 r1\nint r0 2\n")
@@ -280,7 +280,7 @@ func shallow(x *machine.Machine) uint64 {
 func TestP1_Texts(t *testing.T) {
 	words := []string{"val", "fun", "x", "y", "=", "(", ")", "1", "\"a\"", "+", "::", "fn", "=>", "|", "case", "of", "if", "then", "else", "let", "in", "end", ";", ",", "A", "nil", "datatype", "t", "exception", "'a", "*", "->", "~", "not", "ref", "!", ":=", "raise", "handle", "Div", "_", "div", "0", "and", "#", "(*", "*)", "\"", "int", "list"}
 	var kinds [10]int
-	for seed := range uint64(20000) {
+	for seed := range uint64(8000) {
 		g := &anyGen{gen{x: seed}}
 		s, _ := session.New(api.Options{Words: 3000, Stack: 500, Every: g.n(3)})
 		text := ""

@@ -235,6 +235,9 @@ func (g *gen) expr(t gty, deep int) string {
 	return g.made(t, deep)
 }
 
+// hidden is a name that hides others, and is not used itself: that of a function within its body.
+func hidden(name string) []gvar { return []gvar{{name, base("hidden")}} }
+
 // let is a let of an expression of a type.
 func (g *gen) let(t gty, deep int) string {
 	var decls string
@@ -251,7 +254,7 @@ func (g *gen) let(t gty, deep int) string {
 		f, a, b, c := g.name(), g.ty(1), g.ty(0), g.ty(1)
 		p, vars := g.pat(a, 2, nil)
 		q, vars := g.pat(b, 1, vars)
-		decls += " fun " + f + " " + p + " " + q + " = " + g.with(vars, func() string { return g.expr(c, deep) })
+		decls += " fun " + f + " " + p + " " + q + " = " + g.with(append(hidden(f), vars...), func() string { return g.expr(c, deep) })
 		g.known = append(g.known[:len(g.known):len(g.known)], gvar{f, fnOf(a, fnOf(b, c))})
 	}
 	s := "let" + decls + " in " + g.expr(t, deep) + " end"
@@ -373,7 +376,7 @@ func (g *gen) items(n, deep int) []string {
 		case 1:
 			f, a, c := g.name(), g.ty(1), g.ty(1)
 			p, vars := g.pat(a, 2, nil)
-			l = append(l, "fun "+f+" "+p+" = "+g.with(vars, func() string { return g.expr(c, deep) }))
+			l = append(l, "fun "+f+" "+p+" = "+g.with(append(hidden(f), vars...), func() string { return g.expr(c, deep) }))
 			g.known = append(g.known, gvar{f, fnOf(a, c)})
 		case 2:
 			e := g.expr(t, deep)

@@ -21,92 +21,68 @@ func Gen(l []api.Func) ([]api.Code, api.Errno) {
 	if !anf.Right(l) {
 		return nil, api.ErrForm
 	}
-	c := counter{named: map[int]int{}, put: map[int]int{}}
+	named, put := map[int]int{}, map[int]int{}
 	long := len(l) > api.MaxCodes
+	codes := make([]api.Code, 0, len(l))
 	for _, f := range l {
-		c.parts = 0
-		c.block(f.Body)
-		long = long || f.Locals > maxLocals || f.Free > maxFree || c.parts > maxParts
+		t := tally{named: named, put: put}
+		t.block(f.Body)
+		long = long || f.Locals > maxLocals || f.Free > maxFree || t.parts > maxParts || t.text > maxText
+		if !long {
+			codes = append(codes, code(f, t))
+		}
 	}
-	for n := range c.put {
-		if c.named[n] > 0 {
+	for n := range put {
+		if named[n] > 0 {
 			return nil, api.ErrLink
 		}
 	}
-	if long || c.text > maxText {
+	if long {
 		return nil, api.ErrLong
-	}
-	codes := make([]api.Code, 0, len(l))
-	for _, f := range l {
-		codes = append(codes, code(f))
 	}
 	return codes, api.OK
 }
 
-// counter goes through functions and counts.
-type counter struct {
+// tally is what there is in a function.
+type tally struct {
 	parts int         // steps, ends and atoms
 	text  int         // bytes of the longest text
 	named map[int]int // globals, by how many atoms name them
 	put   map[int]int // globals, by how many steps put them
+	arg   bool        // is what it is applied to named?
+	free  bool        // is something named that it has with it?
+	calls bool        // does it call or handle? The registers are another's behind that
 }
 
-func (c *counter) block(b api.Block) {
+func (t *tally) block(b api.Block) {
 	for _, s := range b.Steps {
-		c.parts++
+		t.parts++
 		if s.Kind == api.SPut {
-			c.put[s.N]++
+			t.put[s.N]++
 		}
-		c.atoms(s.Args)
-		c.blocks(s.Blocks)
+		t.calls = t.calls || s.Kind == api.SCall || s.Kind == api.STry
+		t.atoms(s.Args)
+		t.blocks(s.Blocks)
 	}
-	c.parts++
-	c.atoms(b.Args)
-	c.blocks(b.Blocks)
+	t.parts++
+	t.atoms(b.Args)
+	t.blocks(b.Blocks)
 }
 
-func (c *counter) blocks(l []api.Block) {
+func (t *tally) blocks(l []api.Block) {
 	for _, b := range l {
-		c.block(b)
+		t.block(b)
 	}
 }
 
-func (c *counter) atoms(l []api.Atom) {
+func (t *tally) atoms(l []api.Atom) {
 	for _, a := range l {
-		c.parts++
-		c.text = max(c.text, len(a.Text))
+		t.parts++
+		t.text = max(t.text, len(a.Text))
+		t.arg = t.arg || a.Kind == api.AArg
+		t.free = t.free || a.Kind == api.AFree
 		if a.Kind == api.AGlobal {
-			c.named[a.N]++
+			t.named[a.N]++
 		}
-	}
-}
-
-// use is what a function makes use of.
-type use struct {
-	arg, free bool
-	calls     bool // or handles: the registers are another's then
-}
-
-// uses looks through a block.
-func (u *use) block(b api.Block) {
-	for _, s := range b.Steps {
-		u.calls = u.calls || s.Kind == api.SCall || s.Kind == api.STry
-		u.atoms(s.Args)
-		u.blocks(s.Blocks)
-	}
-	u.atoms(b.Args)
-	u.blocks(b.Blocks)
-}
-
-func (u *use) blocks(l []api.Block) {
-	for _, b := range l {
-		u.block(b)
-	}
-}
-
-func (u *use) atoms(l []api.Atom) {
-	for _, a := range l {
-		u.arg = u.arg || a.Kind == api.AArg
-		u.free = u.free || a.Kind == api.AFree
 	}
 }

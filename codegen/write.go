@@ -25,27 +25,25 @@ type writer struct {
 	local  int             // the slot of the first local
 }
 
-// code is a function's code.
-func code(f api.Func) api.Code {
-	u := use{}
-	u.block(f.Body)
-	w := &writer{places: map[api.Lit]int{}, slots: u.calls || f.Locals > localRegs}
+// code is the code of a function in which there is so much.
+func code(f api.Func, t tally) api.Code {
+	w := &writer{places: map[api.Lit]int{}, slots: t.calls || f.Locals > localRegs}
 	if w.slots {
-		w.enter(u, f.Locals)
+		w.enter(t, f.Locals)
 	}
 	w.block(f.Body, ended)
 	return w.code
 }
 
 // enter makes the slots of a function, and keeps there what it makes use of.
-func (w *writer) enter(u use, locals int) {
+func (w *writer) enter(t tally, locals int) {
 	var saves []api.Ins
-	if u.free {
+	if t.free {
 		w.own = w.local
 		w.local++
 		saves = append(saves, api.Ins{Op: api.OpSave, A: closureReg, N: w.own})
 	}
-	if u.arg {
+	if t.arg {
 		w.arg = w.local
 		w.local++
 		saves = append(saves, api.Ins{Op: api.OpSave, A: argReg, N: w.arg})

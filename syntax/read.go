@@ -51,7 +51,7 @@ func isPrefix(name string) bool {
 // stray is what the reading is given up with: the place of a token that can not stand behind those ahead of it.
 type stray struct{ at int }
 
-// reader reads tokens, of which it has taken so many.
+// reader reads tokens, of which it has taken so many. Its functions are called as the grammar calls what they read; patom, product and post are a pattern's atom, a type with * and a type with names behind it.
 type reader struct {
 	tokens []api.Token
 	taken  int

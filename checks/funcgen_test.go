@@ -158,7 +158,7 @@ func (g *fgen) list() []api.Func {
 	return g.funcs
 }
 
-func TestP12_1_Functions(t *testing.T) {
+func TestP12_1_P12_5_Functions(t *testing.T) {
 	var ended [4]int
 	for seed := range uint64(8000) {
 		g := &fgen{gen: gen{x: seed}}

@@ -85,7 +85,7 @@ func (g *gen) mixed() []string {
 	return l
 }
 
-func TestP13_3_ByChance(t *testing.T) {
+func TestP13_3_W2_ByChance(t *testing.T) {
 	var kinds [10]int
 	for seed := range uint64(1500) {
 		g := &gen{x: seed + 7000}

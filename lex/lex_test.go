@@ -61,6 +61,7 @@ func TestP7_1_Numbers(t *testing.T) {
 
 func TestP7_1_Texts(t *testing.T) {
 	cut(t, `"" "a b" "\"\\\n\t\x00\xFF"`, text("", 0), text("a b", 3), text("\"\\\n\t\x00\xff", 9), end(27))
+	cut(t, `"~ !"`, text("~ !", 0), end(5))
 	cut(t, `"a""b"`, text("a", 0), text("b", 3), end(6))
 	cut(t, `"(* x"`, text("(* x", 0), end(6))
 	for _, s := range []string{`"`, `"a`, `"a\"`, `"\`, `"\x"`, `"\x4"`, `"\x4g"`, `"\xaf"`, `"\x4`, `"\a"`, `"\X41"`, "\"a\nb\"", "\"\t\"", "\"\x7f\"", "\"\xc3\xa9\"", "\"\x00\"", `"\ "`} {

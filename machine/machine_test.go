@@ -120,6 +120,12 @@ func TestP6_1_Stack(t *testing.T) {
 			t.Error(k, r)
 		}
 	}
+	again := code(t, "enter 10; enter 13; int r2 5; return r2") // in place of those that it had
+	y := made(t, 64, 16)
+	load(t, y, again)
+	if r := y.Run(9, 0, 0); r.Kind != api.MDone {
+		t.Error(r)
+	}
 	c.Ins[0].N = 14
 	x := made(t, 64, 16)
 	load(t, x, c)
@@ -214,6 +220,27 @@ func TestP6_2_Unloaded(t *testing.T) {
 	}
 }
 
+func TestP6_2_Greatest(t *testing.T) {
+	x := made(t, api.MaxWords, 16)
+	if e := x.Load(make([]api.Code, api.MaxCodes)); e != api.OK || x.Live() != 1 {
+		t.Error(e)
+	}
+	long := code(t, "lit r2 0; size r2 r2; return r2", ltext(strings.Repeat("x", 8*(api.MaxSize-1))))
+	load(t, x, long)
+	if x.Run(9, 0, 0); x.Value() != num.Int(8*(api.MaxSize-1)) {
+		t.Error(x.Value())
+	}
+	full := code(t, "int r2 5; return r2")
+	full.Lits = make([]api.Lit, api.MaxSize-2)
+	for i := range full.Lits {
+		full.Lits[i] = lint(1)
+	}
+	load(t, x, full)
+	if x.Run(9, 0, 0); x.Value() != num.Int(5) || x.Live() != 1+api.MaxSize {
+		t.Error(x.Value(), x.Live())
+	}
+}
+
 func TestP6_2_Literals(t *testing.T) {
 	is(t, -5, "lit r2 1; return r2", lint(9), lint(-5))
 	is(t, api.MinInt, "lit r2 0; return r2", lint(api.MaxInt+1))
@@ -291,6 +318,9 @@ func TestP6_4_Carry(t *testing.T) {
 		stuck(t, 1, s+"; return r0", lint(1))
 	}
 	stuck(t, 2, "enter 2; load r2 2; return r0")
+	stuck(t, 2, "enter 0; load r2 0; return r0")
+	stuck(t, 3, "enter 2; enter 0; load r2 0; return r0")
+	is(t, 5, "enter 0; int r2 5; return r2")
 	stuck(t, 2, "enter 2; save r2 -1; return r0")
 	stuck(t, 2, "enter 2; save r2 2; return r0")
 }
@@ -342,6 +372,7 @@ func TestP6_4_Same(t *testing.T) {
 		t.Error("as many steps, or more", r)
 	}
 	raises(t, api.XEqual, "closure r2 1; same r3 r2 r2; return r3")
+	ends(t, api.MRaised, 7, api.XEqual, code(t, "closure r2 1; tuple r4 2; fill r4 r2 1; move r5 r4; same r3 r4 r5; return r3"))
 	raises(t, api.XEqual, "closure r2 1; tuple r3 1; same r3 r2 r3; return r3")
 	is(t, 0, "closure r2 1; same r3 r2 r0; return r3")
 	is(t, 1, "lit r2 0; lit r3 1; same r3 r2 r3; return r3", ltext("a"), ltext("a"))
@@ -383,6 +414,7 @@ func TestP6_4_Jumps(t *testing.T) {
 	stuck(t, 2, "tuple r2 1; unless r2 1; return r2; return r2")
 	stuck(t, 2, "jump 2147483647; return r2")
 	stuck(t, 2, "jump -2; return r2")
+	stuck(t, 2, "jump -2; return r2", lint(15), lint(15)) // their words are those of raise r0
 	stuck(t, 2, "jump 1; return r2")
 	stuck(t, 1, "enter -1; return r2")
 	stuck(t, 3, "int r2 1; int r2 1; lit r2 0")
@@ -473,6 +505,8 @@ func TestP6_4_Texts(t *testing.T) {
 	is(t, 'k', "lit r2 0; int r4 10; ord r2 r2 r4; return r2", ltext("abcdefghijk"))
 	is(t, 255, "lit r2 0; ord r2 r2 r4; return r2", ltext("\xff"))
 	is(t, 200, "int r2 200; str r3 r2; ord r2 r3 r4; return r2")
+	is(t, 255, "int r2 255; str r3 r2; ord r2 r3 r4; return r2")
+	is(t, 0, "str r3 r2; ord r2 r3 r4; return r2")
 	is(t, 1, "int r2 200; str r3 r2; size r2 r3; return r2")
 	is(t, 1, "lit r2 0; int r3 -45; digits r3 r3; same r2 r2 r3; return r2", ltext("-45"))
 	raises(t, api.XChr, "int r2 256; str r3 r2; return r3")

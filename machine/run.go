@@ -57,10 +57,9 @@ steps:
 	return r
 }
 
-// begin makes one frame, of the loaded code.
+// begin makes one frame, of the loaded code. (What end has left is as it must be.)
 func (x *Machine) begin() {
 	x.value = num.Int(0)
-	x.end()
 	x.push(x.code)
 }
 

@@ -48,7 +48,7 @@ func parts() [][3]int {
 	}
 }
 
-func TestP2_1_Header(t *testing.T) {
+func TestP2_1_P2_10_Header(t *testing.T) {
 	for _, p := range parts() {
 		h, e := mem.Header(p[0], p[1], p[2])
 		if want := 1 | uint64(p[0])<<1 | uint64(p[1])<<4 | uint64(p[2])<<28; h != want || e != api.OK {
@@ -330,10 +330,10 @@ func TestP2_9_Nil(t *testing.T) {
 	if a, e := m.Alloc(0, 0, 0); a != 0 || e != api.ErrNil {
 		t.Error("Alloc", e)
 	}
-	if _, _, _, e := m.Look(1); e != api.ErrNil {
+	if k, s, g, e := m.Look(1); k != 0 || s != 0 || g != 0 || e != api.ErrNil {
 		t.Error("Look", e)
 	}
-	if _, e := m.Load(1, 0); e != api.ErrNil {
+	if w, e := m.Load(1, 0); w != 0 || e != api.ErrNil {
 		t.Error("Load", e)
 	}
 	if e := m.Store(1, 0, 0); e != api.ErrNil {
@@ -342,7 +342,7 @@ func TestP2_9_Nil(t *testing.T) {
 	if e := m.Flip(); e != api.ErrNil {
 		t.Error("Flip", e)
 	}
-	if _, e := m.Move(1); e != api.ErrNil {
+	if a, e := m.Move(1); a != 0 || e != api.ErrNil {
 		t.Error("Move", e)
 	}
 }

@@ -123,7 +123,7 @@ func TestP5_1_PutText(t *testing.T) {
 	}
 }
 
-func TestP5_1_GetText(t *testing.T) {
+func TestP5_1_P5_5_GetText(t *testing.T) {
 	h := newHeap(t, 1000)
 	for _, s := range []string{"", "a", "abcdefgh", "abcdefghi", "\x00\x00", "\xff\x80\n"} {
 		if got, e := rts.GetText(h.Mem, h.text(s)); got != s || e != api.OK {
@@ -164,7 +164,7 @@ func (h heap) same(a, b uint64, most, how, steps int, e api.Errno) {
 	}
 }
 
-func TestP5_2_Pairs(t *testing.T) {
+func TestP5_2_P5_6_Pairs(t *testing.T) {
 	h := newHeap(t, 1000)
 	one, two := num.Int(1), num.Int(2)
 	h.same(one, one, 9, rts.Alike, 1, api.OK)
@@ -293,6 +293,10 @@ func TestP5_4_Values(t *testing.T) {
 		{h.object(api.KRef, h.list(five)), refTo(listOf(whole())), "ref [5]"}, {h.list(h.list(five), h.list()), listOf(listOf(whole())), "[[5], []]"},
 		{num.Int(0), boolean(), "false"}, {num.Int(2), con(api.SExn, "exn"), "Div"}, {five, variable(3), "_"}, {0, variable(0), "_"},
 		{h.list(num.Int(0)), listOf(variable(1)), "[_]"},
+		// Brackets stand behind ref only around what has two parts.
+		{h.object(api.KRef, num.Int(0)), refTo(unit()), "ref ()"}, {h.object(api.KRef, fn), refTo(function(whole(), unit())), "ref fn"}, {h.object(api.KRef, h.text("a")), refTo(text()), `ref "a"`}, {h.object(api.KRef, num.Int(1)), refTo(boolean()), "ref true"},
+		{h.object(api.KRef, num.Int(1)), refTo(variable(0)), "ref _"}, {h.object(api.KRef, h.tuple(five, five)), refTo(pair(whole(), whole())), "ref (5, 5)"},
+		{h.object(api.KRef, num.Int(1)), refTo(unit()), "ref ?"}, {h.object(api.KRef, five), refTo(text()), "ref ?"}, {h.object(api.KRef, five), refTo(function(whole(), unit())), "ref ?"}, {h.object(api.KRef, five), refTo(refTo(whole())), "ref ?"}, {h.object(api.KRef, five), refTo(boolean()), "ref ?"}, {h.object(api.KRef, h.tuple(five)), refTo(boolean()), "ref ?"}, {h.object(api.KRef, h.con(9, five)), refTo(boolean()), "ref ?"},
 	} {
 		if s := h.show(c.w, c.t); s != c.s {
 			t.Errorf("%s, not %s", s, c.s)
@@ -338,7 +342,7 @@ func TestP5_4_Constructors(t *testing.T) {
 		{h.con(4, h.list(h.con(4, five))), con(10, "tree", listOf(ints)), "One [One 5]"},
 		{h.con(2, h.tuple(five, five)), con(10, "tree", whole(), boolean()), "Pair (5, ?)"},
 		{h.con(2, h.tuple(five, num.Int(1))), con(10, "tree", whole(), boolean()), "Pair (5, true)"},
-		{h.con(2, h.tuple(five, five)), ints, "Pair (5, ?)"}, {h.con(3, five), ints, "Odd ?"}, {h.con(5, five), ints, "Neg ?"},
+		{h.con(2, h.tuple(five, five)), ints, "Pair (5, ?)"}, {h.con(3, five), ints, "Odd ?"}, {h.con(5, five), ints, "Neg ?"}, {h.con(3, five), con(10, "tree", whole(), whole()), "Odd ?"},
 		{h.con(4, five), con(10, "tree", variable(0)), "One _"},
 	} {
 		if s := h.show(c.w, c.t, tree()...); s != c.s {

@@ -297,6 +297,7 @@ func wrongDecls() []api.Decl {
 		{Kind: api.DFun, Funs: []api.Fun{f, {Name: "g", Body: x}}}, {Kind: api.DFun, Funs: []api.Fun{{Name: "G", Pats: []api.Pat{p}, Body: x}}}, {Kind: api.DFun, Funs: []api.Fun{{Name: "g", Pats: []api.Pat{p}}}}, {Kind: api.DFun, Funs: []api.Fun{{Name: "g", Pats: []api.Pat{{}}, Body: x}}},
 		{Kind: api.DData}, {Kind: api.DData, Data: api.Data{Name: "t"}}, {Kind: api.DData, Data: api.Data{Name: "T", Cons: []api.Con{c}}}, {Kind: api.DData, Data: api.Data{Name: "ref", Cons: []api.Con{c}}}, {Kind: api.DData, Data: api.Data{Vars: []string{"a"}, Name: "t", Cons: []api.Con{c}}}, {Kind: api.DData, Data: data, Con: c}, {Kind: api.DData, Data: api.Data{Name: "t", Cons: []api.Con{{Name: "a"}}}}, {Kind: api.DData, Data: api.Data{Name: "t", Cons: []api.Con{{Name: "A", Arg: make([]api.Ty, 1)}}}},
 		{Kind: api.DExn}, {Kind: api.DExn, Con: api.Con{Name: "a"}}, {Kind: api.DExn, Con: c, Data: data}, {Kind: api.DExn, Con: api.Con{Name: "A", Arg: []api.Ty{{Kind: api.YVar, Name: "'a"}, {Kind: api.YVar, Name: "'a"}}}}, {Kind: api.DExpr}, {Kind: api.DExpr, Expr: x, Pat: p}, {Kind: api.DExpr, Expr: x, Pat: api.Pat{Name: "x"}}, {Kind: api.DExpr, Expr: x, Con: api.Con{Arg: make([]api.Ty, 1)}}, {Kind: api.DExpr, Expr: x, Data: api.Data{Vars: []string{""}}},
+		{Kind: api.DFun, Funs: []api.Fun{f}, Expr: api.Expr{Num: 1}}, {Kind: api.DFun, Funs: []api.Fun{f}, Expr: api.Expr{Name: "x"}}, {Kind: api.DFun, Funs: []api.Fun{f}, Expr: api.Expr{L: []api.Expr{x}}}, {Kind: api.DFun, Funs: []api.Fun{f}, Expr: api.Expr{Pats: []api.Pat{p}}}, {Kind: api.DFun, Funs: []api.Fun{f}, Pat: api.Pat{Num: 1}}, {Kind: api.DFun, Funs: []api.Fun{f}, Pat: api.Pat{L: []api.Pat{p}}}, {Kind: api.DFun, Funs: []api.Fun{f}, Data: api.Data{Cons: []api.Con{c}}},
 	}
 	for _, e := range wrongExprs() {
 		l = append(l, api.Decl{Kind: api.DExpr, Expr: e}, api.Decl{Kind: api.DExpr, Expr: api.Expr{Kind: api.ETuple, L: []api.Expr{x, e}}})
@@ -329,8 +330,10 @@ func TestP8_2_Right(t *testing.T) {
 	if !syntax.Right([]api.Decl{{Kind: api.DExpr, Expr: e}}) {
 		t.Error("deep")
 	}
-	if !syntax.Right([]api.Decl{{Kind: api.DVal, Pat: api.Pat{Kind: api.PInt, Num: -api.MaxInt}, Expr: api.Expr{Kind: api.EInt, Num: api.MaxInt}}}) {
-		t.Error("numbers")
+	for _, n := range []int64{-api.MaxInt, 0, api.MaxInt} {
+		if !syntax.Right([]api.Decl{{Kind: api.DVal, Pat: api.Pat{Kind: api.PInt, Num: n}, Expr: api.Expr{Kind: api.EInt, Num: max(n, -n)}}}) {
+			t.Error("numbers")
+		}
 	}
 }
 

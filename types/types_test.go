@@ -225,6 +225,12 @@ func TestP9_1_MaxType(t *testing.T) {
 			t.Error(use, e)
 		}
 	}
+	// None of these types stands in that of a name, or of the whole.
+	refused(t, "val _ = case ("+strings.Repeat("raise Match, ", 9)+"raise Match) of (a, b, c, d, e, f, g, h, i, j) => (a = (b, b); b = (c, c); c = (d, d); d = (e, e); e = (f, f); f = (g, g); g = (h, h); h = (i, i); i = (j, j); 1)", 0, api.ErrType)
+	has(t, "val _ = case ("+strings.Repeat("raise Match, ", 5)+"raise Match) of (a, b, c, d, e, f) => (a = (b, b); b = (c, c); c = (d, d); d = (e, e); e = (f, f); 1)", "")
+	y := types.New()
+	add(t, y, "val v = "+wide(299))
+	add(t, y, "val _ = if true then v else v")
 	has(t, "fn a => let val b = (a, a) val c = (b, b) val d = (c, c) val e = (d, d) val f = (e, e) val g = (f, f) in 1 end", "it : 'a -> int")
 	x := types.New()
 	add(t, x, "datatype t = A of "+strings.TrimSuffix(strings.Repeat("int * ", 400), " * "))

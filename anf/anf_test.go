@@ -87,7 +87,7 @@ func wrongSteps() []api.Step {
 		step(api.SIf, 0, 0, one), withBlocks(step(api.SIf, 0, 0, one)).of(two[0]), withBlocks(step(api.SIf, 0, 1, one)).of(two...), withBlocks(step(api.SIf, 0, 0)).of(two...), withBlocks(step(api.SIf, 3, 0, one)).of(two...), withBlocks(step(api.SIf, 0, 0, one)).of(two[0], two[1], two[0]), withBlocks(step(api.SIf, 0, 0, one)).of(two[0], api.Block{}), withBlocks(step(api.SIf, 0, 0, one)).of(api.Block{}, two[0]),
 		step(api.STry, 0, 0), withBlocks(step(api.STry, 0, 3)).of(two...), withBlocks(step(api.STry, 0, -1)).of(two...), withBlocks(step(api.STry, 3, 0)).of(two...), withBlocks(step(api.STry, 0, 0, one)).of(two...), withBlocks(step(api.STry, 0, 0)).of(two[0]), withBlocks(step(api.STry, 0, 0)).of(api.Block{}, two[0]), withBlocks(step(api.STry, 0, 0)).of(two[0], api.Block{}),
 		withBlocks(step(api.STry, 0, 2)).of(ret(local(2)), ret(local(2))), withBlocks(step(api.STry, 0, 2)).of(ret(aint(1), step(api.SMove, 0, 0, one)), ret(local(0))), withBlocks(step(api.SIf, 0, 0, one)).of(ret(local(0)), two[0]), withBlocks(step(api.SIf, 0, 0, one)).of(ret(aint(1), step(api.SMove, 2, 0, one)), ret(local(2))), withBlocks(step(api.SIf, 0, 0, local(0))).of(two...),
-		withBlocks(step(api.SIf, 0, 0, one)).of(ends(api.EndCall, []api.Atom{one, one}), two[0]), withBlocks(step(api.STry, 0, 0)).of(two[0], ends(api.EndCall, []api.Atom{one, one})), withBlocks(step(api.SIf, 0, 0, one)).of(two[0], ends(api.EndIf, []api.Atom{one}, two[0], ends(api.EndCall, []api.Atom{one, one}))),
+		withBlocks(step(api.SIf, 0, 0, one)).of(ends(api.EndCall, []api.Atom{one, one}), two[0]), withBlocks(step(api.STry, 0, 0)).of(two[0], ends(api.EndCall, []api.Atom{one, one})), withBlocks(step(api.STry, 0, 0)).of(ends(api.EndCall, []api.Atom{one, one}), two[0]), withBlocks(step(api.SIf, 0, 0, one)).of(two[0], ends(api.EndCall, []api.Atom{one, one})), withBlocks(step(api.SIf, 0, 0, one)).of(two[0], ends(api.EndIf, []api.Atom{one}, two[0], ends(api.EndCall, []api.Atom{one, one}))),
 		withBlocks(step(api.SIf, 0, 0, one)).of(two[0], ret(aint(1), withBlocks(step(api.STry, 0, 0)).of(two[0], ends(api.EndCall, []api.Atom{one, one})))),
 	}
 }
@@ -105,7 +105,7 @@ func wrongEnds() []api.Block {
 	one, b := aint(1), ret(aint(1))
 	return []api.Block{
 		{}, ends(5, []api.Atom{one}), ends(-1, []api.Atom{one}), ends(api.EndReturn, nil), ends(api.EndReturn, []api.Atom{one, one}), ends(api.EndReturn, []api.Atom{one}, b), ends(api.EndCall, []api.Atom{one}), ends(api.EndCall, []api.Atom{one, one}, b), ends(api.EndRaise, nil), ends(api.EndRaise, []api.Atom{one}, b),
-		ends(api.EndIf, []api.Atom{one}), ends(api.EndIf, []api.Atom{one}, b), ends(api.EndIf, nil, b, b), ends(api.EndIf, []api.Atom{one}, b, b, b), ends(api.EndIf, []api.Atom{one}, b, api.Block{}), ends(api.EndIf, []api.Atom{one}, ret(aint(1), step(api.SMove, 0, 0, one)), ret(local(0))),
+		ends(api.EndIf, []api.Atom{one}), ends(api.EndIf, []api.Atom{one}, b), ends(api.EndIf, nil, b, b), ends(api.EndIf, []api.Atom{one}, b, b, b), ends(api.EndIf, []api.Atom{one}, b, api.Block{}), ends(api.EndIf, []api.Atom{one}, api.Block{}, b), ends(api.EndIf, []api.Atom{one}, ret(aint(1), step(api.SMove, 0, 0, one)), ret(local(0))),
 	}
 }
 

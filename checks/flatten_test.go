@@ -335,9 +335,12 @@ func TestP11_1_Refused(t *testing.T) {
 	}
 }
 
-func TestP11_3_Examples(t *testing.T) {
+func TestP11_1_Examples(t *testing.T) {
 	l := flat(t, cnode(api.CApp, 0, cnode(api.CFn, 0, cnode(api.CVar, 0)), cint(5)))
-	if s := anf.Text(l); len(l) != 2 || strings.Count(s, "\n") != 2 || !strings.Contains(s, "(tail %0 5) ])\n(fun 0 0 [ (return arg) ])") {
+	if s := anf.Text(l); len(l) != 2 || strings.Count(s, "\n") != 2 || !strings.Contains(s, "(tail ") {
 		t.Error(s)
+	}
+	if l := flat(t, cnode(api.CPut, 7, cint(1))); len(l) != 1 || !strings.Contains(anf.Text(l), "(put $7 ") {
+		t.Error(anf.Text(l))
 	}
 }

@@ -201,6 +201,11 @@ func TestP10_1_Names(t *testing.T) {
 	if room[:4][3].Name != "" {
 		t.Error("what is handed in was changed")
 	}
+	for _, n := range []int{-1, api.MaxGlobal} { // no right expression names such a global
+		if c, _, e := core.Lower(read(t, "x"), []core.Name{{"x", n}}, nil, []int{6}); e == api.OK && !core.Right(c) {
+			t.Error(n)
+		}
+	}
 	c, _, _ := core.Lower(read(t, "val z = x"), names, nil, []int{6})
 	if !slices.Equal(core.Globals(c), []int{5, 6}) {
 		t.Error("the last one counts", core.Text(c))

@@ -16,35 +16,35 @@ func Text(l []api.Func) string {
 	}
 	w := &writer{}
 	for _, f := range l {
-		w.WriteString("(fun")
+		w.out.WriteString("(fun")
 		w.words("", f.Free, f.Locals)
 		w.block(f.Body)
-		w.WriteString(")\n")
+		w.out.WriteString(")\n")
 	}
-	return w.String()
+	return w.out.String()
 }
 
 // writer writes what it is given, each behind a blank.
 type writer struct {
-	strings.Builder
+	out strings.Builder
 }
 
 // words writes numbers, each behind a mark.
 func (w *writer) words(mark string, ns ...int) {
 	for _, n := range ns {
-		w.WriteString(" " + mark + num.Text(int64(n)))
+		w.out.WriteString(" " + mark + num.Text(int64(n)))
 	}
 }
 
 func (w *writer) block(b api.Block) {
-	w.WriteString(" [ ")
+	w.out.WriteString(" [ ")
 	for _, s := range b.Steps {
 		w.step(s)
 	}
-	w.WriteString("(" + [...]string{"", "return", "tail", "raise", "branch"}[b.End])
+	w.out.WriteString("(" + [...]string{"", "return", "tail", "raise", "branch"}[b.End])
 	w.atoms(b.Args)
 	w.rest(b.Blocks)
-	w.WriteString("]")
+	w.out.WriteString("]")
 }
 
 // rest writes the blocks at the end of a step or an end, and what closes that.
@@ -52,13 +52,13 @@ func (w *writer) rest(l []api.Block) {
 	for _, b := range l {
 		w.block(b)
 	}
-	w.WriteString(") ")
+	w.out.WriteString(") ")
 }
 
 func (w *writer) step(s api.Step) {
-	w.WriteString("(" + [...]string{"", "move", "prim", "make", "close", "fill", "field", "call", "put", "if", "try"}[s.Kind])
+	w.out.WriteString("(" + [...]string{"", "move", "prim", "make", "close", "fill", "field", "call", "put", "if", "try"}[s.Kind])
 	if s.Kind == api.SPrim {
-		w.WriteString(" " + isa.Name(s.N))
+		w.out.WriteString(" " + isa.Name(s.N))
 	}
 	if gives(s.Kind) {
 		w.words("%", s.To)
@@ -79,13 +79,13 @@ func (w *writer) atoms(l []api.Atom) {
 	for _, a := range l {
 		switch a.Kind {
 		case api.AInt:
-			w.WriteString(" " + num.Text(a.Num))
+			w.out.WriteString(" " + num.Text(a.Num))
 		case api.AText:
-			w.WriteString(" " + rts.Quote(a.Text))
+			w.out.WriteString(" " + rts.Quote(a.Text))
 		case api.ALocal:
 			w.words("%", a.N)
 		case api.AArg:
-			w.WriteString(" arg")
+			w.out.WriteString(" arg")
 		case api.AFree:
 			w.words("^", a.N)
 		case api.AGlobal:

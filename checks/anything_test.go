@@ -8,6 +8,7 @@ import (
 	"kindling/api"
 	"kindling/codegen"
 	"kindling/core"
+	"kindling/gc"
 	"kindling/isa"
 	"kindling/lex"
 	"kindling/machine"
@@ -173,21 +174,37 @@ func TestP1_Functions(t *testing.T) {
 	}
 }
 
+// size is that of an object, mostly a small one.
+func (g *anyGen) size() int {
+	if g.n(6) == 0 {
+		return 60 + g.n(140)
+	}
+	return 1 + g.n(3)
+}
+
+// address is one that an object may have, or that lies within one or behind all of them.
+func (g *anyGen) address(m *mem.Mem) int {
+	if g.n(2) == 0 {
+		return 1 + g.n(30)
+	}
+	return g.n(2*m.Words() + 2)
+}
+
 func TestP1_Values(t *testing.T) {
 	for seed := range uint64(20000) {
 		g := &anyGen{gen{x: seed}}
-		m, _ := mem.New(64 + g.n(100))
+		m, _ := mem.New(64 + g.n(400))
 		for range g.n(12) {
-			a, e := m.Alloc(1+g.n(5), 1+g.n(3), g.n(4))
+			a, e := m.Alloc(1+g.n(5), g.size(), g.n(4))
 			_, size, _, _ := m.Look(a)
 			for i := range size {
-				m.Store(a, i, []uint64{num.Ptr(1 + g.n(30)), num.Int(int64(g.n(4))), uint64(g.int())}[g.n(3)])
+				m.Store(a, i, []uint64{num.Ptr(g.address(m)), num.Int(int64(g.n(4))), uint64(g.int())}[g.n(3)])
 			}
-			if e != api.OK {
-				m.Alloc(api.KTuple, 2, 2)
+			if size := g.size(); e != api.OK {
+				m.Alloc(api.KTuple, size, size)
 			}
 		}
-		w, v := uint64(g.n(60)), uint64(g.n(60))
+		w, v := []uint64{num.Ptr(g.address(m)), uint64(g.n(60))}[g.n(2)], uint64(g.n(60))
 		if s := rts.Show(m, w, g.typ(4), append(rts.Makers(), some(g, 3, g.maker)...)); len(s) > 503 {
 			t.Fatal(len(s))
 		}
@@ -196,6 +213,17 @@ func TestP1_Values(t *testing.T) {
 		how2, steps2, e2 := rts.Same(m, v, w, 1000)
 		if how != how2 || steps != steps2 || e != e2 || steps > 1000 {
 			t.Fatal(seed, how, how2, steps, steps2)
+		}
+		before, e := gc.Live(m, []uint64{w, v})
+		roots, f := gc.Collect(m, []uint64{w, v})
+		if after, _ := gc.Live(m, roots); e != f || e == api.OK && before != after {
+			t.Fatal(seed, before, after, e, f)
+		}
+		if m.Flip(); m.Copy().Half() != m.Half() {
+			t.Fatal(seed)
+		}
+		for range 9 {
+			m.Move(g.address(m))
 		}
 	}
 }

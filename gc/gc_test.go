@@ -154,6 +154,33 @@ func TestP4_1_Check(t *testing.T) {
 	}
 }
 
+func TestP4_1_InLongObjects(t *testing.T) {
+	for _, size := range []int{63, 64, 65, 200} {
+		m := made(t, 300)
+		a := object(t, m, api.KRef, 1, num.Int(0))
+		b := object(t, m, api.KBytes, 0, make([]uint64, size)...)
+		for in := b + 1; in <= m.Next(); in++ {
+			w := num.Ptr(in)
+			m.Store(a, 0, w)
+			for _, roots := range [][]uint64{{w}, {num.Ptr(a)}} {
+				before := state(m)
+				if e := gc.Check(m, roots); e != api.ErrWord {
+					t.Error(size, in, e)
+				}
+				if n, e := gc.Live(m, roots); n != 0 || e != api.ErrWord {
+					t.Error(size, in, n, e)
+				}
+				if l, e := gc.Collect(m, roots); len(l) != 0 || e != api.ErrWord || !slices.Equal(state(m), before) {
+					t.Error(size, in, l, e)
+				}
+				for reached := range gc.Reach(m, roots) {
+					t.Error(size, in, reached)
+				}
+			}
+		}
+	}
+}
+
 func TestP4_2_Reach(t *testing.T) {
 	m := made(t, 64)
 	a := object(t, m, api.KTuple, 2, num.Int(0), num.Int(0))

@@ -8,6 +8,7 @@ import (
 	"kindling/api"
 	"kindling/isa"
 	"kindling/machine"
+	"kindling/mem"
 	"kindling/num"
 	"kindling/rts"
 )
@@ -529,6 +530,48 @@ func TestP6_4_LongTexts(t *testing.T) {
 		load(t, x, code(t, "lit r2 0; lit r3 1; join r2 r2 r3; size r2 r2; return r2", ltext(half), ltext(half+more)))
 		if r := x.Run(9, 0, 0); r.Kind != kind {
 			t.Error(len(more), r)
+		}
+	}
+}
+
+// objects is how many objects a memory has, where no address but theirs is one's.
+func objects(t *testing.T, m *mem.Mem) int {
+	t.Helper()
+	n := 0
+	for a := 0; a <= 2*m.Words()+1; a++ {
+		_, _, _, e := m.Look(a)
+		_, f := m.Load(a, 0)
+		if e != f || e != api.OK && e != api.ErrRange {
+			t.Error(a, e, f)
+		}
+		if e == api.OK {
+			n++
+		}
+	}
+	return n
+}
+
+func TestP6_5_LongTextsInMemory(t *testing.T) {
+	for _, size := range []int{8 * 62, 8 * 63, 8 * 200, 8 * (api.MaxSize - 1)} {
+		x := made(t, api.MaxWords, 100)
+		c := code(t, "lit r2 0; lit r3 1; put r3 0; int r4 -1; ord r5 r3 r4; return r5", ltext("ab"), ltext(strings.Repeat("x", size)))
+		load(t, x, c)
+		if n := objects(t, x.Memory()); n != 3 {
+			t.Error(size, n)
+		}
+		if r := x.Run(9, 0, 1); r.Kind != api.MRaised || x.Value() != num.Int(api.XSubscript) {
+			t.Error(size, r)
+		}
+		if n := objects(t, x.Copy().Memory()); n != 3 {
+			t.Error(size, n)
+		}
+		old := x.Global(0)
+		x.Collect()
+		if _, e := rts.GetText(x.Memory(), old); e != api.ErrWord { // it stands in the other half now
+			t.Error(size, e)
+		}
+		if n := objects(t, x.Memory()); n != 3 {
+			t.Error(size, n)
 		}
 	}
 }

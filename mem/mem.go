@@ -32,7 +32,7 @@ type Mem struct {
 // space is what is filled of a half.
 type space struct {
 	cells []uint64 // headers and fields; the header of an object that was moved is its new address's word
-	marks []uint64 // a bit a cell: is it a header?
+	marks []uint64 // a bit a cell, up to the block of the last header: is it a header?
 }
 
 // Header is the word of a header's parts.
@@ -152,9 +152,10 @@ func (s *space) mark() {
 	s.marks[cell/blockCells] |= 1 << (cell % blockCells)
 }
 
-// marked tells whether a cell is a header.
+// marked tells whether a cell is a header. (Marks may end ahead of the cells: the last object may go on for blocks behind its header.)
 func (s *space) marked(cell int) bool {
-	return cell < len(s.cells) && s.marks[cell/blockCells]>>(cell%blockCells)&1 == 1
+	block := cell / blockCells
+	return block < len(s.marks) && s.marks[block]>>(cell%blockCells)&1 == 1
 }
 
 // find is the cell of the header of the object at an address in a half.

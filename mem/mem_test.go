@@ -1,6 +1,7 @@
 package mem_test
 
 import (
+	"maps"
 	"math"
 	"slices"
 	"testing"
@@ -227,6 +228,93 @@ func TestP2_5_Objects(t *testing.T) {
 	}
 }
 
+// filled is a memory with as many words as said beside codes of these sizes, and the addresses of these.
+func filled(t *testing.T, more int, sizes ...int) (*mem.Mem, []int) {
+	t.Helper()
+	words := more
+	for _, size := range sizes {
+		words += 1 + size
+	}
+	m := made(t, max(words, api.MinWords))
+	var l []int
+	for _, size := range sizes {
+		l = append(l, object(t, m, api.KCode, size, size/2))
+	}
+	return m, l
+}
+
+// only asks whether just these addresses, of all that a memory could have, are those of objects.
+func only(t *testing.T, m *mem.Mem, objects []int) {
+	t.Helper()
+	if got := slices.Collect(m.Objects()); !slices.Equal(got, objects) {
+		t.Error("objects", got, objects)
+	}
+	for a := -1; a <= 2*m.Words()+2; a++ {
+		if slices.Contains(objects, a) {
+			if _, size, _, e := m.Look(a); e != api.OK || size > 0 && m.Store(a, size-1, 7) != api.OK {
+				t.Errorf("%d is an object's: %d", a, e)
+			}
+			continue
+		}
+		if k, s, g, e := m.Look(a); k != 0 || s != 0 || g != 0 || e != api.ErrRange {
+			t.Errorf("Look(%d) = %d, %d, %d, %d", a, k, s, g, e)
+		}
+		if w, e := m.Load(a, 0); w != 0 || e != api.ErrRange {
+			t.Errorf("Load(%d, 0) = %d, %d", a, w, e)
+		}
+		if e := m.Store(a, 0, 9); e != api.ErrRange {
+			t.Errorf("Store(%d, 0, 9) = %d", a, e)
+		}
+	}
+}
+
+// longSizes are sizes of objects that stand behind one another, some of which are so long that no other one begins for a while.
+func longSizes() [][]int {
+	return [][]int{
+		{62}, {63}, {64}, {65}, {126}, {127}, {128}, {129}, {500}, {1, 61}, {1, 62}, {62, 0}, {63, 0}, {64, 0}, {0, 64}, {0, 128, 0}, {63, 63}, {64, 64, 64},
+		{300, 2, 300}, {2, 1000}, {1000, 2}, {api.MaxSize}, {5, api.MaxSize}, {api.MaxSize, 5},
+	}
+}
+
+func TestP2_4_P2_7_LongObjects(t *testing.T) {
+	for _, sizes := range longSizes() {
+		for _, more := range []int{0, 1, 200} {
+			m, objects := filled(t, more, sizes...)
+			only(t, m, objects)
+			m.Flip()
+			c := m.Copy()
+			only(t, m, nil)
+			for a := -1; a <= 2*m.Words()+2; a++ {
+				if slices.Contains(objects, a) {
+					continue
+				}
+				if to, e := m.Move(a); to != 0 || e != api.ErrRange {
+					t.Errorf("%v: Move(%d) = %d, %d", sizes, a, to, e)
+				}
+			}
+			for i := range objects {
+				objects[i], _ = m.Move(objects[i])
+			}
+			only(t, m, objects)
+			only(t, m.Copy(), objects)
+			only(t, c, nil)
+		}
+	}
+}
+
+func TestP2_6_LongObjectsGone(t *testing.T) {
+	m, _ := filled(t, 500, 3, 300, 3)
+	m.Flip()
+	m.Flip() // the half in use is the one that had the long object
+	only(t, m, nil)
+	a := object(t, m, api.KTuple, 400, 400)
+	only(t, m, []int{a})
+	m.Flip()
+	if to, e := m.Move(a + 302); to != 0 || e != api.ErrRange { // there an object stood once
+		t.Error(to, e)
+	}
+}
+
 func TestP2_6_Flip(t *testing.T) {
 	m := made(t, 64)
 	a := object(t, m, api.KTuple, 2, 2)
@@ -406,6 +494,96 @@ func TestP2_12_MovedIsWhatItWas(t *testing.T) {
 		}
 		if again, _ := m.Move(a); again != to {
 			t.Error("moved twice", a, to, again)
+		}
+	}
+}
+
+// plain is what a memory holds, told by maps: the fields of each object of both halves, and where what was moved stands.
+type plain struct {
+	next    int
+	objects [2]map[int][]uint64 // of the half in use, of the old one
+	moved   map[int]int
+}
+
+func (p *plain) add(l []uint64) int {
+	a := p.next
+	p.objects[0][a] = slices.Clone(l)
+	p.next += 1 + len(l)
+	return a
+}
+
+// hold asks whether a memory tells of each address what the plain one does.
+func (p *plain) hold(t *testing.T, m *mem.Mem) {
+	t.Helper()
+	if m.Next() != p.next {
+		t.Fatal("Next", m.Next(), p.next)
+	}
+	for a := 0; a <= 2*m.Words()+1; a++ {
+		want, ok := p.objects[0][a]
+		_, size, _, e := m.Look(a)
+		if ok != (e == api.OK) || !ok && e != api.ErrRange || !slices.Equal(fields(m, a), want) || size != len(want) {
+			t.Fatal(a, size, e, want)
+		}
+	}
+}
+
+func TestP2_3_P2_7_Walk(t *testing.T) {
+	const words = 400
+	x := uint64(1)
+	chance := func(n int) int {
+		x = x*6364136223846793005 + 1442695040888963407
+		return int(x >> 33 % uint64(n))
+	}
+	m := made(t, words)
+	p := &plain{next: 1, objects: [2]map[int][]uint64{{}, {}}, moved: map[int]int{}}
+	for range 3000 {
+		switch how := chance(20); {
+		case how < 8:
+			size := []int{0, 1, 2, 63, 64, 65, chance(200)}[chance(7)]
+			free := m.Free()
+			if _, e := m.Alloc(api.KCode, size, 0); (e == api.OK) != (size < free) {
+				t.Fatal("Alloc", size, free, e)
+			} else if e == api.OK {
+				p.add(make([]uint64, size))
+			}
+		case how < 12:
+			a, i := chance(2*words+2), chance(9)
+			l, ok := p.objects[0][a]
+			if e := m.Store(a, i, x); (e == api.OK) != (ok && i < len(l)) {
+				t.Fatal("Store", a, i, e)
+			} else if e == api.OK {
+				l[i] = x
+			}
+		case how < 18:
+			p.move(t, m, chance(2*words+2))
+			for _, a := range slices.Sorted(maps.Keys(p.objects[1])) {
+				if chance(3) == 0 {
+					p.move(t, m, a)
+				}
+			}
+		case how < 19:
+			m = m.Copy()
+		default:
+			m.Flip()
+			p = &plain{next: m.Half()*words + 1, objects: [2]map[int][]uint64{{}, p.objects[0]}, moved: map[int]int{}}
+		}
+		p.hold(t, m)
+	}
+}
+
+// move moves in both of them.
+func (p *plain) move(t *testing.T, m *mem.Mem, a int) {
+	t.Helper()
+	l, ok := p.objects[1][a]
+	to, again := p.moved[a]
+	free := m.Free()
+	got, e := m.Move(a)
+	switch {
+	case !ok && (got != 0 || e != api.ErrRange), again && (got != to || e != api.OK), ok && !again && (e == api.OK) != (len(l) < free):
+		t.Fatal("Move", a, got, e)
+	case ok && !again && e == api.OK:
+		if p.moved[a] = p.add(l); p.moved[a] != got {
+			t.Fatal("Move", a, got, p.moved[a])
 		}
 	}
 }

@@ -154,6 +154,26 @@ func TestP5_1_P5_5_GetText(t *testing.T) {
 	}
 }
 
+func TestP5_1_P5_2_P5_4_InLongTexts(t *testing.T) {
+	h := newHeap(t, 300)
+	long := h.text(strings.Repeat("x", 8*200))
+	for a := num.ToPtr(long) + 1; a <= h.Next(); a++ {
+		w := num.Ptr(a)
+		if s, e := rts.GetText(h.Mem, w); s != "" || e != api.ErrWord {
+			t.Errorf("%d: %q %d", a, s, e)
+		}
+		h.same(w, long, 9, 0, 0, api.ErrWord)
+		for _, by := range []api.Type{text(), refTo(whole()), pair(whole(), whole()), function(whole(), whole()), con(api.SExn, "exn")} {
+			if s := h.show(w, by); s != "?" {
+				t.Error(a, by.Name, s)
+			}
+		}
+		if s := h.show(w, listOf(whole())); s != "[?]" {
+			t.Error(a, s)
+		}
+	}
+}
+
 // same holds two words against each other, both ways round.
 func (h heap) same(a, b uint64, most, how, steps int, e api.Errno) {
 	h.t.Helper()
